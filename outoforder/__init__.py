@@ -1,0 +1,1 @@
+"""A processor that does things out of order, run cycle by cycle."""
