@@ -59,6 +59,7 @@ class Instruction:
     def __init__(self, place, word):
         d = (word >> 20) & 15
         self.place = place
+        self.word = word
         self.op = word >> 24
         self.imm = signed_half(word)
         self.first = first_read(self.op, (word >> 16) & 15)

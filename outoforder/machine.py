@@ -23,6 +23,10 @@ class Machine:
         self.units = cfg[4:8]
         self.counters = [1] * cfg[8]
         self.stopped = 0
+        self.cycles_run = 0
+        self.have_left = 0
+        self.thrown_away = 0
+        self.wrong_guesses = 0
         self.fetch_from(0)
 
     def fetch_from(self, place):
@@ -35,12 +39,17 @@ class Machine:
         self.free_units = list(self.units)
         self.fetch_place = place
 
+    def next_to_leave(self):
+        """A place; before the first cycle alone there's no slot, and it's where fetching begins."""
+        return self.slots[0].instruction.place if self.slots else self.fetch_place
+
     def run_cycles(self, cycles):
         while cycles > 0 and self.stopped == 0:
             self.run_cycle()
             cycles -= 1
 
     def run_cycle(self):
+        self.cycles_run += 1
         self.let_leave()
         if self.stopped == 0:
             self.let_run_on()
@@ -56,10 +65,17 @@ class Machine:
                 return
             self.slots.pop(0)
             may_leave -= 1
+            self.have_left += 1
             self.keep_result(slot)
             if slot.guess != slot.goes_on:
-                self.fetch_from(slot.goes_on)
+                self.throw_away(slot.goes_on)
                 return
+
+    def throw_away(self, place):
+        """Sets right a wrong guess of the one that has just left: all that there are were behind it."""
+        self.wrong_guesses += 1
+        self.thrown_away += len(self.slots)
+        self.fetch_from(place)
 
     def keep_result(self, slot):
         if slot.instruction.written != 0:

@@ -1,13 +1,19 @@
 """The calls on one processor, handed in and answered as one list of whole numbers."""
 
-from outoforder.machine import Machine
+from outoforder.arithmetic import wrapped
+from outoforder.machine import CELLS, Machine
 
 BEGIN_REFUSED = -3
-RUN_REFUSED = -2
+OUT_OF_RANGE = -2
+NO_SUCH_SLOT = -3
 MOST_CYCLES = 1000000
+LAST_SLOT = 63
 
 RUN = 1
 REGS = 2
+TELL_CELLS = 3
+TOLD = 4
+SLOT = 5
 
 # The least and the most of each number of cfg.
 CFG_RANGES = ((1, 4), (1, 4), (1, 4), (1, 64), (1, 4), (1, 4), (1, 4), (1, 4), (0, 256))
@@ -48,9 +54,30 @@ def is_as_told(cfg):
 
 def run_answer(machine, cycles):
     if cycles < 0 or cycles > MOST_CYCLES:
-        return [RUN_REFUSED]
+        return [OUT_OF_RANGE]
     machine.run_cycles(cycles)
     return [machine.stopped]
+
+
+def cells_answer(machine, a, n):
+    # Where neither is below 0, one that's above 1024 makes the sum so too.
+    if a < 0 or n < 0 or a + n > CELLS:
+        return [OUT_OF_RANGE]
+    return [n] + machine.cells[a:a + n]
+
+
+def told_answer(machine):
+    counts = [machine.cycles_run, machine.have_left, machine.thrown_away, machine.wrong_guesses]
+    return [machine.stopped] + [wrapped(count) for count in counts] + [len(machine.slots), machine.next_to_leave()]
+
+
+def slot_answer(machine, k):
+    if k < 0 or k > LAST_SLOT:
+        return [OUT_OF_RANGE]
+    if k >= len(machine.slots):
+        return [NO_SUCH_SLOT]
+    slot = machine.slots[k]
+    return [0, slot.instruction.place, slot.instruction.word, slot.state, slot.cycles_left, slot.value]
 
 
 def call_answer(machine, reader):
@@ -59,6 +86,13 @@ def call_answer(machine, reader):
         return run_answer(machine, reader.take_number())
     if number == REGS:
         return [0] + machine.regs
+    if number == TELL_CELLS:
+        a = reader.take_number()
+        return cells_answer(machine, a, reader.take_number())
+    if number == TOLD:
+        return told_answer(machine)
+    if number == SLOT:
+        return slot_answer(machine, reader.take_number())
     raise UnknownCall(f"no call has the number {number}")
 
 

@@ -60,22 +60,23 @@ def sets_register(op):
 
 
 def one_after_another(prog, cells, most):
-    """How it stops (0 if it hasn't after so many), the registers, the cells."""
+    """How it stops (0 if it hasn't after so many), the registers, the cells, how many were done, the place."""
     regs = [0] * 16
     cells = list(cells) + [0] * (1024 - len(cells))
     place = 0
-    for _ in range(most):
+    for count in range(most):
         if place >= len(prog):
-            return 5, regs, cells
+            return 5, regs, cells, count, place
         op, d = parts(prog[place])[:2]
-        stop, value, cell, place = does(prog[place], place, lambda r: regs[r], lambda c: cells[c])
+        stop, value, cell, after = does(prog[place], place, lambda r: regs[r], lambda c: cells[c])
         if stop:
-            return stop, regs, cells
+            return stop, regs, cells, count, place
         if sets_register(op) and d:
             regs[d] = value
         if op == 13:
             cells[cell] = value
-    return 0, regs, cells
+        place = after
+    return 0, regs, cells, most, place
 
 
 class Literal:
@@ -88,10 +89,49 @@ class Literal:
         self.place = 0
         self.slots = []
         self.stopped = 0
+        self.cycles = 0
+        self.left = 0
+        self.thrown = 0
+        self.wrong = 0
+
+    def answer(self, call):
+        """What a call other than begin answers, the call as it stands in the list."""
+        if call[0] == 1:
+            return self.run(call[1])
+        if call[0] == 2:
+            return [0, *self.regs]
+        if call[0] == 3:
+            return self.some_cells(call[1], call[2])
+        return self.told() if call[0] == 4 else self.slot(call[1])
+
+    def run(self, cycles):
+        if not 0 <= cycles <= 1000000:
+            return [-2]
+        for _ in range(cycles):
+            self.cycle()
+        return [self.stopped]
+
+    def some_cells(self, a, n):
+        if not (0 <= a <= 1024 and 0 <= n <= 1024 and a + n <= 1024):
+            return [-2]
+        return [n, *self.cells[a:a + n]]
+
+    def told(self):
+        place = self.slots[0]['place'] if self.slots else self.place
+        return [self.stopped, self.cycles, self.left, self.thrown, self.wrong, len(self.slots), place]
+
+    def slot(self, k):
+        if not 0 <= k <= 63:
+            return [-2]
+        if k >= len(self.slots):
+            return [-3]
+        slot = self.slots[k]
+        return [0, slot['place'], slot['word'], slot['state'], slot['left'] if slot['state'] == 1 else 0, slot['value']]
 
     def cycle(self):
         if self.stopped:
             return
+        self.cycles += 1
         self.leave()
         if not self.stopped:
             self.run_on()
@@ -107,6 +147,7 @@ class Literal:
                 self.stopped = slot['stop']
                 return
             self.slots = self.slots[1:]
+            self.left += 1
             if sets_register(slot['op']) and slot['d']:
                 self.regs[slot['d']] = slot['value']
             if slot['op'] == 13:
@@ -116,6 +157,8 @@ class Literal:
                 step = 1 if slot['next'] != (slot['place'] + 1) % TOP else -1
                 self.counters[which] = min(3, max(0, self.counters[which] + step))
             if slot['guess'] != slot['next']:
+                self.wrong += 1
+                self.thrown += len(self.slots)
                 self.slots = []
                 self.place = slot['next']
                 return

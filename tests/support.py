@@ -9,6 +9,7 @@ TOP = 2 ** 32
 FETCHED, LEAVE, PASSED_ON, SLOTS, OTHERS, UNITS_8, UNITS_9, UNITS_12, COUNTERS = range(9)
 
 REGS = [2]
+TOLD = [4]
 
 
 def word(op, d=0, a=0, b=0):
@@ -40,6 +41,14 @@ def begin(prog, cfg=MOST, cells=()):
 
 def run(cycles):
     return [1, cycles]
+
+
+def cells_of(a, n):
+    return [3, a, n]
+
+
+def slot(k):
+    return [5, k]
 
 
 def split(numbers):
@@ -93,3 +102,28 @@ def stops_at(prog, cfg, cells=(), most=149):
         if row[0] != 0:
             return number, row[0]
     return None
+
+
+def after_cycles(prog, cfg, cycles, calls, cells=()):
+    """The answers to calls behind so many cycles."""
+    return ask(begin(prog, cfg, cells), run(cycles), *calls)[2:]
+
+
+def told_at(prog, cfg, cycles, cells=()):
+    return after_cycles(prog, cfg, cycles, [TOLD], cells)[0]
+
+
+def told_by_cycle(prog, cfg, cycles, cells=()):
+    """What is told before the first cycle and behind each of so many (149 at most)."""
+    calls = [begin(prog, cfg, cells), TOLD]
+    for _ in range(cycles):
+        calls += [run(1), TOLD]
+    return ask(*calls)[1::2]
+
+
+def slots_at(prog, cfg, cycles, cells=()):
+    """All slots that there are, each without the 0 in front: its place, word, 0 to 3, cycles left, value."""
+    rows = after_cycles(prog, cfg, cycles, [slot(k) for k in range(64)], cells)
+    there = [row[1:] for row in rows if row != [-3]]
+    assert rows == [[0, *row] for row in there] + [[-3]] * (64 - len(there))
+    return there

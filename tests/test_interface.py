@@ -6,11 +6,13 @@ import unittest
 
 from outoforder import processor
 from outoforder.processor import answers
-from tests.support import MOST, ONE, REGS, STOP, begin, imm_word, put, run, word
+from tests.support import MOST, ONE, REGS, STOP, TOLD, begin, cells_of, imm_word, put, run, slot, split, word
 
+PROG = [put(1, 7), imm_word(13, 1, 0, 2), imm_word(12, 2, 0, 2), word(9, 3, 2, 1), imm_word(14, 0, 0, -5)]
 MIXED = [
-    *begin([put(1, 7), imm_word(13, 1, 0, 2), imm_word(12, 2, 0, 2), word(9, 3, 2, 1), imm_word(14, 0, 0, -5)], MOST, [1, 2, 3]),
-    *run(9), *REGS, *run(-1), *run(40), *REGS, *run(0),
+    *begin(PROG, MOST, [1, 2, 3]), *TOLD, *slot(0), *cells_of(0, 4), *run(1), *slot(4), *slot(2), *run(3), *TOLD,
+    *slot(0), *cells_of(0, 4), *REGS, *run(5), *REGS, *slot(64), *run(-1), *cells_of(1024, 1), *cells_of(2, 1),
+    *run(11), *TOLD, *cells_of(1024, 0), *run(40), *REGS, *TOLD, *slot(63), *run(0), *cells_of(0, 1024),
 ]
 
 
@@ -28,6 +30,23 @@ class Form(unittest.TestCase):
     def test_how_many_then_these(self):
         told = answers([*begin([put(1, 7)], ONE), *run(4), *REGS, *run(-1), *run(1), *run(0)])
         self.assertEqual(told, [1, 0, 1, 0, 17, 0, 0, 7, *[0] * 14, 1, -2, 1, 5, 1, 5])
+
+    def test_each_of_the_six(self):
+        prog = [put(1, 7), imm_word(13, 1, 0, 1), STOP]
+        calls = [*begin(prog, ONE, [5]), *slot(0), *TOLD, *run(5), *slot(0), *TOLD, *cells_of(0, 2), *REGS,
+                 *cells_of(-1, 2), *slot(1), *slot(-1), *run(2), *cells_of(1, 1), *cells_of(9, 0), *slot(0)]
+        self.assertEqual(answers(calls), [
+            1, 0, 1, -3, 7, *[0] * 7, 1, 0, 6, 0, 1, prog[1], 1, 1, 7, 7, 0, 5, 1, 0, 0, 1, 1, 3, 2, 5, 0,
+            17, 0, 0, 7, *[0] * 14, 1, -2, 1, -3, 1, -2, 1, 0, 2, 1, 7, 1, 0, 6, 0, 2, 0, 3, 0, 0])
+
+    def test_numbers_of_cells_that_look_like_calls(self):
+        told = answers([*begin([], ONE, [9, 8, 7, 6, 5, 4]), 3, 1, 2, 3, 4, 2, 3, 5, 1, 5, 2, 5, 5, 4])
+        self.assertEqual(told, [1, 0, 3, 2, 8, 7, 3, 2, 5, 4, 2, 1, 4, 1, -3, 1, -3, 7, *[0] * 7])
+
+    def test_a_number_that_is_no_call(self):
+        for number in (6, 7, -1, 0):
+            with self.assertRaises(processor.UnknownCall):
+                answers([*begin([], ONE), *TOLD, number])
 
     def test_begin_alone(self):
         self.assertEqual(answers(begin([], ONE)), [1, 0])
@@ -55,6 +74,17 @@ class Form(unittest.TestCase):
         told = answers(begin(prog, MOST, [2 ** 32 - 1] * 1024) + run(1000000) + REGS * 298)
         self.assertEqual(told[:4], [1, 0, 1, 1])
         self.assertEqual(told[4:], [17, 0, 0, 1023, *[0] * 14] * 298)
+
+    def test_the_longest_answer(self):
+        cells = list(range(1024))
+        told = answers(begin([], MOST, cells) + cells_of(0, 1024) * 299)
+        self.assertEqual(told, [1, 0] + [1025, 1024, *cells] * 299)
+
+    def test_an_answer_s_cells_are_those_of_its_time(self):
+        prog = [put(1, 7), imm_word(13, 1, 0, 1), STOP]
+        rows = split(answers([*begin(prog), *cells_of(0, 3), *REGS, *run(99), *cells_of(0, 3), *REGS]))
+        self.assertEqual(rows[1:3], [[3, 0, 0, 0], [0] * 17])
+        self.assertEqual(rows[4:], [[3, 0, 7, 0], [0, 0, 7, *[0] * 14]])
 
     def test_names(self):
         self.assertIs(processor.answers, answers)
